@@ -51,8 +51,8 @@ class House:
         self.bindings = []
         return 0
 
+    # out and come_in change the packet in place, and answer 0 or a refusal.
     def out(self, packet, now):
-        """Let a packet out, which is changed in place; 0, or a refusal."""
         self.forget_dead(now)
         refusal = refusal_both_ways(packet, ECHO_REQUEST)
         if refusal != 0:
@@ -72,7 +72,6 @@ class House:
         return 0
 
     def come_in(self, packet, now):
-        """Let a packet in, which is changed in place; 0, or a refusal."""
         self.forget_dead(now)
         refusal = refusal_both_ways(packet, ECHO_ANSWER)
         if refusal != 0:
@@ -91,7 +90,6 @@ class House:
         return len([binding for binding in self.bindings if not binding.is_dead(now)])
 
     def find(self, protocol, port, now):
-        """0, then the address and the port inside; or -1 alone."""
         binding = self.bound_outside(protocol, port)
         if binding is None or binding.is_dead(now):
             return [NOT_FOUND]
@@ -122,8 +120,8 @@ class House:
         return port
 
 
+# What out and come_in refuse alike, but for the kind of echo that goes their way; 0 if nothing.
 def refusal_both_ways(packet, echo_kind):
-    """What out and come_in refuse alike, but for the kind of echo that goes their way; else 0."""
     if not is_whole(packet):
         return NOT_WHOLE
     if is_piece(packet) or not carries_known(packet, echo_kind):
@@ -134,7 +132,6 @@ def refusal_both_ways(packet, echo_kind):
 
 
 def answers(calls):
-    """Answer the calls of one list on a new house, each answer behind how many numbers it has."""
     house = House()
     told = []
     start = 0
@@ -161,7 +158,7 @@ def answer_one(house, call):
         return [house.count(call[1])]
     if call[0] == FIND:
         return house.find(call[1], call[2], call[3])
-    # The slice is a copy, so what was handed in stays as it is while the packet is rewritten.
+    # A slice is a copy, so what was handed in stays as it is while the packet is rewritten.
     packet = call[CALL_SIZES[OUT]:]
     if call[0] == OUT:
         refusal = house.out(packet, call[1])

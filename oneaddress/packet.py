@@ -75,9 +75,8 @@ def is_piece(packet):
 
 
 def carries_known(packet, echo_kind):
-    """Whether a whole packet carries UDP, TCP or an echo of the kind that goes its way."""
     start = head_length(packet)
-    # Bytes past the packet's length are nobody's, so its list's length says nothing here.
+    # Bytes past the packet's length are nobody's, so how many there are in all says nothing here.
     size = word_at(packet, LENGTH_PLACE) - start
     protocol = packet[PROTOCOL_PLACE]
     if protocol == UDP:
@@ -114,7 +113,6 @@ def carried_checksum_place(packet):
 
 
 def rewrite(packet, address_place, port_place, address, port):
-    """Give the packet another address and port at these places, and take it one step further."""
     before = covered_words(packet, address_place, port_place)
     set_address(packet, address_place, address)
     set_word(packet, port_place, port)
@@ -124,8 +122,8 @@ def rewrite(packet, address_place, port_place, address, port):
     bring_checksum_along(packet, before, after)
 
 
+# Of the words that are rewritten, those that the carried checksum is over: an echo's leaves addresses out.
 def covered_words(packet, address_place, port_place):
-    """Of the words that are rewritten, those that the carried checksum is over."""
     port = word_at(packet, port_place)
     if packet[PROTOCOL_PLACE] == ECHO:
         return [port]
@@ -141,7 +139,7 @@ def bring_checksum_along(packet, before, after):
     place = carried_checksum_place(packet)
     checksum = word_at(packet, place)
     is_udp = packet[PROTOCOL_PLACE] == UDP
-    # A UDP sender that sums nothing writes 0; a sum of ours that is 0 must not be taken for that.
+    # 0 says that there is no UDP checksum, so one that comes out as 0 must be told otherwise.
     if is_udp and checksum == 0:
         return
     checksum = moved_checksum(checksum, before, after)

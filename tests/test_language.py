@@ -86,6 +86,8 @@ class Language(unittest.TestCase):
                 self.assertNotIsInstance(node.targets[0], (ast.Tuple, ast.List))
             for node in walk(tree, ast.For, ast.While):
                 self.assertEqual(node.orelse, [])
+            for node in walk(tree, ast.Expr):
+                self.assertTrue(node == tree.body[0] or isinstance(node.value, ast.Call), name)
 
     def test_names(self):
         for name, tree in self.trees.items():
